@@ -1,0 +1,1 @@
+"""Exact Markov chains with a few states, in discrete or continuous time."""
