@@ -1,12 +1,16 @@
 """The interface: a list of calls is executed, and all answers are given back in one list."""
 
 from exactchains.changes import create, embed, lump, remove_state, set_row, set_weight, uniformize
-from exactchains.lookups import class_info, classes, distance, generator, get_weight, probability
+from exactchains.lookups import class_info, classes, distance, generator, get_weight, is_lumpable, probability, summary
 from exactchains.model import Instance
+from exactchains.reaching import absorption, hitting_probability, hitting_time, visits, watched
 from exactchains.reading import Reader
 from exactchains.refusals import no_instance
+from exactchains.shares import after_steps, is_reversible, long_run, return_time, reversed_generator, stationary
 
 CHANGING = ("set_weight", "set_row", "remove_state", "uniformize", "embed", "lump")
+REACHING = ("hitting_probability", "hitting_time", "absorption", "visits", "watched")
+SHARING = ("stationary", "return_time", "long_run", "after_steps", "is_reversible", "reversed")
 
 
 def change(instance, name, given):
@@ -24,8 +28,36 @@ def change(instance, name, given):
     return lump(instance, given[0])
 
 
+def reach(chain, name, given):
+    """Execute an operation that tells how states and sets are reached."""
+    if name == "hitting_probability":
+        return hitting_probability(chain, given[0], given[1])
+    if name == "hitting_time":
+        return hitting_time(chain, given[0], given[1])
+    if name == "absorption":
+        return absorption(chain, given[0])
+    if name == "visits":
+        return visits(chain, given[0], given[1])
+    return watched(chain, given[0], given[1], given[2])
+
+
+def share(chain, name, given):
+    """Execute an operation that tells of distributions."""
+    if name == "stationary":
+        return stationary(chain, given[0])
+    if name == "return_time":
+        return return_time(chain, given[0])
+    if name == "long_run":
+        return long_run(chain, given[0])
+    if name == "after_steps":
+        return after_steps(chain, given[0], given[1])
+    if name == "is_reversible":
+        return is_reversible(chain, given[0])
+    return reversed_generator(chain, given[0], given[1])
+
+
 def look_up(chain, name, given):
-    """Execute an operation that only tells of the chain."""
+    """Execute an operation that tells of weights, classes and partitions."""
     if name == "get_weight":
         return get_weight(chain, given[0], given[1])
     if name == "probability":
@@ -38,8 +70,9 @@ def look_up(chain, name, given):
         return class_info(chain, given[0])
     if name == "distance":
         return distance(chain, given[0], given[1])
-    # Operations 13 to 25 aren't built yet: better no answer than a wrong one.
-    raise NotImplementedError(name)
+    if name == "is_lumpable":
+        return is_lumpable(chain, given[0])
+    return summary(chain)
 
 
 def answer(instance, call):
@@ -50,6 +83,10 @@ def answer(instance, call):
         return no_instance()
     if call.name in CHANGING:
         return change(instance, call.name, call.arguments)
+    if call.name in REACHING:
+        return reach(instance.chain, call.name, call.arguments)
+    if call.name in SHARING:
+        return share(instance.chain, call.name, call.arguments)
     return look_up(instance.chain, call.name, call.arguments)
 
 

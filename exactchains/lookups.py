@@ -1,7 +1,8 @@
-"""The operations that tell of the chain's weights and classes: 7 to 12."""
+"""The operations that tell of the chain's weights, classes and partitions: 7 to 12, 23 and 25."""
 
-from exactchains.refusals import no_result, no_such_state
-from exactchains.structure import class_names, class_of, distances_from, is_closed, period_of
+from exactchains.lumping import blocks_of, is_lumpable_into
+from exactchains.refusals import no_result, no_such_state, out_of_range
+from exactchains.structure import class_names, class_of, closed_classes, distances_from, is_closed, period_of
 
 
 def get_weight(chain, i, j):
@@ -48,3 +49,17 @@ def distance(chain, i, j):
     if found is None:
         return no_result()
     return [found]
+
+
+def is_lumpable(chain, labels):
+    """Whether the partition is lumpable."""
+    if len(labels) != chain.state_count():
+        return out_of_range()
+    return [1 if is_lumpable_into(chain, blocks_of(labels)) else 0]
+
+
+def summary(chain):
+    """The numbers of states, the kind, the numbers of classes and of closed ones, and the greatest sum."""
+    class_count = len(set(class_names(chain.rows)))
+    closed_count = len(closed_classes(chain.rows))
+    return [chain.state_count(), chain.is_continuous, class_count, closed_count, chain.greatest_sum()]

@@ -1,6 +1,6 @@
 """Partitions of the states, and the rows of the chain whose states are the blocks."""
 
-from exactchains.ratios import common_denominator
+from exactchains.ratios import common_multiple
 
 
 def blocks_of(labels):
@@ -50,7 +50,7 @@ def discrete_row(chain, blocks, place):
     """The lumped weights of the block at this place."""
     first = blocks[place][0]
     chances = [chain.chance_of(first, block) for block in blocks]
-    common = common_denominator(chances)
+    common = common_multiple([chance[1] for chance in chances])
     return [chance[0] * (common // chance[1]) for chance in chances]
 
 

@@ -4,6 +4,8 @@ from exactchains.ratios import ratio
 
 GREATEST_COUNT = 8
 GREATEST_WEIGHT = 1000000
+GREATEST_START = 1000000
+GREATEST_STEPS = 24
 
 
 class Chain:
@@ -43,6 +45,12 @@ class Chain:
         if total == 0:
             return (1, 1) if i in states else (0, 1)
         return ratio(self.weight_into(i, states), total)
+
+    def stay_in(self, i):
+        """The stay in a state, as a fraction; in a continuous chain for a sum above 0 alone."""
+        if self.is_continuous == 1:
+            return (1, self.sum_of(i))
+        return (1, 1)
 
     def generator_value(self, i, j):
         """The generator for i and j, as a fraction."""

@@ -46,6 +46,17 @@ def is_closed(rows, members):
     return True
 
 
+def all_classes(rows):
+    """The states of each class, ordered by their smallest state."""
+    names = class_names(rows)
+    return [class_of(rows, i) for i in range(len(rows)) if names[i] == i]
+
+
+def closed_classes(rows):
+    """The states of each closed class, ordered by their smallest state."""
+    return [members for members in all_classes(rows) if is_closed(rows, members)]
+
+
 def period_of(rows, i):
     """The period of a state."""
     members = class_of(rows, i)

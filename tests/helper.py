@@ -1,8 +1,12 @@
 """What the tests share: calls written as tuples, and answers read back as lists."""
 
 import re
+from fractions import Fraction
+from math import gcd
 
 from exactchains.chains import answers
+
+GREATEST = 4294967295
 
 NUMBERS = {name: number for number, name in enumerate(
     "create set_weight set_row remove_state uniformize embed lump get_weight probability generator "
@@ -62,6 +66,29 @@ def last(*calls):
     return run(*calls)[-1]
 
 
+def behind(made, *calls):
+    """The answers to these calls, without those to the calls that make the chain."""
+    return run(*made, *calls)[len(made):]
+
+
+def fractions_of(numbers):
+    """Numerators and denominators as fractions; these are to be in lowest terms."""
+    pairs = list(zip(numbers[::2], numbers[1::2]))
+    if len(numbers) % 2 == 1:
+        raise AssertionError(f"not fractions: {numbers}")
+    for numerator, denominator in pairs:
+        if denominator < 1 or gcd(numerator, denominator) != 1:
+            raise AssertionError(f"not in lowest terms: {numbers}")
+    return [Fraction(*pair) for pair in pairs]
+
+
+def wrong_sets(count):
+    """Lists that aren't different states of so many, at least one."""
+    states = list(range(count))
+    return [[], [0, 0], [count], [0, count], [count, 0], [GREATEST], states + [0], states + [count], [0] * 16,
+            list(range(16))]
+
+
 def chain(is_continuous, rows):
     """The calls that make a chain with these rows."""
     return [("create", is_continuous, len(rows))] + [("set_row", i, row) for i, row in enumerate(rows)]
@@ -75,6 +102,16 @@ def rows_after(calls, count):
     told = [run(*calls, *[("get_weight", i, j) for j in range(count)])[len(calls):] for i in range(count)]
     rows = [[answer[0] for answer in row] for row in told]
     return rows, last(*calls, ("embed",))[0]
+
+
+def cycle(count):
+    """The rows of a chain that goes round all of its states."""
+    return [[int(j == (i + 1) % count) for j in range(count)] for i in range(count)]
+
+
+def walk(count):
+    """The rows of a chain that goes one up or one down with equal chances, until it is at an end."""
+    return [[int(abs(i - j) == 1 and 0 < i < count - 1) for j in range(count)] for i in range(count)]
 
 
 def parse_row(row):

@@ -109,6 +109,21 @@ class Language(unittest.TestCase):
                 self.assertTrue({alias.name for alias in node.names} <= tops, place)
         self.assertEqual(len(self.trees["__init__.py"].body), 1)
 
+    def test_no_two_files_draw_from_one_another(self):
+        drawn = {name: {node.module.removeprefix("exactchains.") + ".py" for node in tree.body
+                        if isinstance(node, ast.ImportFrom)} for name, tree in self.trees.items()}
+        while drawn:
+            free = [name for name, others in drawn.items() if not others & set(drawn)]
+            self.assertNotEqual(free, [], sorted(drawn))
+            drawn = {name: others for name, others in drawn.items() if name not in free}
+
+    def test_sets_are_not_kept(self):
+        for place, node in self.nodes():
+            for child in ast.iter_child_nodes(node):
+                if isinstance(child, ast.Call) and isinstance(child.func, ast.Name) and child.func.id == "set":
+                    counted = isinstance(node, ast.Call) and node.func.id in ("len", "sorted")
+                    self.assertTrue(counted or isinstance(node, (ast.Compare, ast.BinOp)), place)
+
     def test_tops_of_files(self):
         for name, tree in self.trees.items():
             self.assertIsNotNone(ast.get_docstring(tree), name)

@@ -1,4 +1,4 @@
-"""Operations 7 to 12: get_weight, probability, generator, classes, class_info, distance."""
+"""Operations 7 to 12 and 25: get_weight, probability, generator, classes, class_info, distance, summary."""
 
 import unittest
 
@@ -176,6 +176,37 @@ class Distance(unittest.TestCase):
     def test_no_such_state_comes_first(self):
         self.assertEqual(helper.last(("create", 0, 2), ("distance", 0, 1)), [-33])
         self.assertEqual(helper.last(("create", 0, 2), ("distance", 0, 2)), [-2])
+
+
+class Summary(unittest.TestCase):
+    def check(self, kind, rows, expected):
+        self.assertEqual(helper.last(*helper.chain(kind, rows), ("summary",)), expected, rows)
+
+    def test_ordinary(self):
+        self.check(0, [[1, 1, 0], [1, 0, 1], [0, 1, 1]], [3, 0, 1, 1, 2])
+        self.check(1, [[0, 1, 0], [1, 0, 1], [0, 7, 0]], [3, 1, 1, 1, 7])
+
+    def test_several_classes(self):
+        for kind in (0, 1):
+            rows = [[0, 1, 0, 2, 0], [0, 0, 1, 0, 0], [0, 1, 0, 0, 0], [0, 0, 0, 0, 0], [9, 0, 0, 0, 0]]
+            self.check(kind, rows, [5, kind, 4, 2, 9])
+            self.check(kind, [[0, 1], [0, 0]], [2, kind, 2, 1, 1])
+
+    def test_weights_to_itself_count_in_the_sum(self):
+        self.check(0, [[5, 2], [0, 6]], [2, 0, 2, 1, 7])
+
+    def test_one_and_eight_states(self):
+        for kind in (0, 1):
+            self.check(kind, [[0]], [1, kind, 1, 1, 0])
+            self.check(kind, [[0] * 8] * 8, [8, kind, 8, 8, 0])
+            self.check(kind, [[1000000 * int(i != j) for j in range(8)] for i in range(8)], [8, kind, 1, 1, 7000000])
+        self.check(0, [[1000000] * 8] * 8, [8, 0, 1, 1, 8000000])
+
+    def test_after_changes(self):
+        made = helper.chain(1, [[0, 2], [3, 0]])
+        self.assertEqual(helper.behind(made, ("uniformize", 4), ("summary",), ("embed",), ("summary",),
+                                       ("remove_state", 0), ("summary",), ("create", 1, 4), ("summary",)),
+                         [[3], [2, 0, 1, 1, 4], [0], [2, 0, 1, 1, 3], [1], [1, 0, 1, 1, 0], [0], [4, 1, 4, 4, 0]])
 
 
 if __name__ == "__main__":

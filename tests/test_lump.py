@@ -1,4 +1,4 @@
-"""Operation 6, lump, and point 4 of the requirements."""
+"""Operations 6 and 23, lump and is_lumpable, and point 4 of the requirements."""
 
 import unittest
 from fractions import Fraction
@@ -24,7 +24,8 @@ def step(distribution, matrix):
 class Lumped(unittest.TestCase):
     def check(self, kind, rows, labels, expected):
         made = helper.chain(kind, rows)
-        self.assertEqual(helper.last(*made, ("lump", labels)), [len(expected)], (rows, labels))
+        self.assertEqual(helper.behind(made, ("is_lumpable", labels), ("lump", labels)), [[1], [len(expected)]],
+                         (rows, labels))
         self.assertEqual(helper.rows_after(made + [("lump", labels)], len(expected)), (expected, kind))
 
 
@@ -155,6 +156,60 @@ class Refused(unittest.TestCase):
             rows[2][3] = 5
 
 
+class IsLumpable(unittest.TestCase):
+    """The ordinary partitions that are lumpable are asked for beside lump, above."""
+
+    def check(self, kind, rows, labels, expected):
+        self.assertEqual(helper.last(*helper.chain(kind, rows), ("is_lumpable", labels)), expected, (rows, labels))
+
+    def test_a_list_of_another_length(self):
+        for count, lengths in [(1, (0, 2, 16)), (3, (0, 1, 2, 4, 16)), (8, (0, 7, 9, 16))]:
+            for kind in (0, 1):
+                for length in lengths:
+                    self.check(kind, [[0] * count] * count, [0] * length, [-22])
+
+    def test_all_labels_may_be(self):
+        for kind in (0, 1):
+            for labels in ([GREATEST, 0, GREATEST], [8, 9, 8], [1000001, 7, 1000001]):
+                self.check(kind, [[0, 1, 2], [5, 0, 5], [2, 1, 0]], labels, [1])
+
+    def test_one_block_and_each_state_a_block(self):
+        rows = [[0, 1, 2, 3], [4, 0, 5, 6], [7, 8, 0, 9], [3, 5, 11, 0]]
+        for kind in (0, 1):
+            for labels in ([0, 0, 0, 0], [4, 3, 2, 1]):
+                self.check(kind, rows, labels, [1])
+            for labels in ([0, 0, 1, 2], [0, 0, 0, 1], [1, 0, 1, 0], [0, 1, 1, 0]):
+                self.check(kind, rows, labels, [0])
+
+    def test_the_kind_of_the_chain_counts(self):
+        for labels in ([0, 0, 1], [7, 7, 3]):
+            self.check(0, [[0, 1, 1], [0, 0, 1], [0, 0, 0]], labels, [0])
+            self.check(1, [[0, 1, 1], [0, 0, 1], [0, 0, 0]], labels, [1])
+            self.check(0, [[0, 0, 1], [0, 0, 2], [0, 0, 0]], labels, [1])
+            self.check(1, [[0, 0, 1], [0, 0, 2], [0, 0, 0]], labels, [0])
+
+    def test_a_later_state_or_a_later_block_differs(self):
+        for kind in (0, 1):
+            self.check(kind, [[0, 0, 0, 1], [0, 0, 0, 1], [0, 0, 0, 0], [0, 0, 0, 0]], [5, 5, 5, 6], [0])
+            self.check(kind, [[0, 0, 0, 1], [0, 0, 1, 0], [0, 0, 0, 0], [0, 0, 0, 0]], [1, 1, 2, 3], [0])
+            self.check(kind, [[0, 0, 0, 1], [0, 0, 1, 0], [0, 0, 0, 0], [0, 0, 0, 0]], [1, 1, 2, 2], [1])
+
+    def test_a_sum_of_0(self):
+        self.check(0, [[0, 0, 0], [0, 3, 0], [1, 2, 3]], [8, 8, 5], [1])
+        self.check(0, [[0, 0, 0], [0, 3, 1], [1, 2, 3]], [8, 8, 5], [0])
+
+    def test_weights_that_would_be_too_large_are_without_effect(self):
+        for kind in (0, 1):
+            rows = [[0, 1000000, 1000000, 1], [0, 0, 0, 0], [0, 0, 0, 0], [0, 0, 0, 0]]
+            self.check(kind, rows, [0, 1, 1, 2], [1])
+
+    def test_one_and_eight_states(self):
+        for kind in (0, 1):
+            self.check(kind, [[0]], [GREATEST], [1])
+            self.check(kind, [[int(j == (i + 1) % 8) for j in range(8)] for i in range(8)], [0, 1] * 4, [1])
+            self.check(kind, [[int(j == (i + 1) % 8) for j in range(8)] for i in range(8)], [0, 0, 1, 1] * 2, [0])
+
+
 class Distributions(unittest.TestCase):
     """Point 4: the blocks of a discrete chain are distributed as the states of the lumped one."""
 
@@ -182,6 +237,20 @@ class Distributions(unittest.TestCase):
                     self.assertEqual(blocks, expected, (rows, labels, start, steps))
                     distribution = step(distribution, matrix)
                     blocks = step(blocks, lumped)
+
+    def test_as_after_steps_answers(self):
+        for rows, labels in self.CHAINS:
+            names = sorted(set(labels), key=labels.index)
+            made = helper.chain(0, rows)
+            start = [3 * i % 7 + 1 for i in range(len(rows))]
+            blocks = [sum(share for share, label in zip(start, labels) if label == name) for name in names]
+            for steps in (0, 1, 2, 9, 24):
+                told = helper.last(*made, ("after_steps", steps, start))
+                shares = helper.fractions_of(told[1:])
+                expected = [sum(share for share, label in zip(shares, labels) if label == name) for name in names]
+                told = helper.last(*made, ("lump", labels), ("after_steps", steps, blocks))
+                self.assertEqual(told[0], len(names))
+                self.assertEqual(helper.fractions_of(told[1:]), expected, (rows, labels, steps))
 
 
 if __name__ == "__main__":
